@@ -1,0 +1,119 @@
+"""What several tests need: odd values, small machines, and all there is of small things."""
+
+import itertools
+import random
+
+from ownback.errors import BadOctets, NoHand, OwnError, Refused, TooGreat
+
+
+def nested(depth):
+    value = 0
+    for _ in range(depth):
+        value = [value]
+    return value
+
+
+ODD = (
+    None, True, False, "", "0", "deed", "back", -1, -7, 10 ** 30, -(10 ** 30), (), [], (()), [[]], ((),), (None,),
+    [True], [False, False], ["deed"], ("back",), ("back", None), ("back", True), ("back", -1), ("back", "0"),
+    ("deed", 0), ("deed", True, 0), ("deed", 0, False), ("deed", 0, -1), ("deed", 0, 0, 0), ("back", 0, 0),
+    (0, 0), (1, 0, 0), [[0], [0]], (0, ()), (0, 0, 0), (0, [0]), (0, [[]]), (0, [[0], []]), (0, ((0,), None)),
+    nested(50), tuple(nested(49)), OwnError(), Refused(3), NoHand("x"), TooGreat(None), BadOctets(-1),
+    [OwnError()], ((), Refused(())), "aa", ("a", "b"),
+)
+
+LAMP = (0, ((1, 0), (1, 1)))
+SMALL = (
+    (0, ((0,),)),
+    (0, ((1, 0),)),
+    LAMP,
+    (0, ((1, 0), (0, 0))),
+    (1, ((1, 0), (0, 1))),
+    (0, ((0, 0), (1, 1))),
+    (0, ((1, 2, 2), (2, 2, 0))),
+    (0, ((0, 0, 0), (1, 2, 1))),
+    (1, ((0, 0, 2, 3), (1, 2, 0, 0))),
+    (2, ((0, 0, 1), (1, 0, 2), (1, 0, 2))),
+)
+
+
+def random_machines(many, boards=4, deeds=3, seed=1):
+    chance = random.Random(seed)
+    machines = []
+    for _ in range(many):
+        size = chance.randint(1, boards)
+        maps = [[chance.randrange(size) for _ in range(size)] for _ in range(chance.randint(1, deeds))]
+        machines.append((chance.randrange(size), tuple(tuple(moves) for moves in maps)))
+    return machines
+
+
+def as_lists(value):
+    return [as_lists(item) for item in value] if isinstance(value, tuple) else value
+
+
+def all_rows(items, most):
+    """All rows of at most so many items, the shortest first, then the least."""
+    for length in range(most + 1):
+        yield from itertools.product(items, repeat=length)
+
+
+def presses_of(machine, hands):
+    deeds = [("deed", hand, deed) for hand in range(hands) for deed in range(len(machine[1]))]
+    return deeds + [("back", hand) for hand in range(hands)]
+
+
+def histories_with(machine, counts):
+    """All histories with these counts, ascending."""
+    hands = [hand for hand, many in enumerate(counts) for _ in range(many)]
+    orders = sorted(set(itertools.permutations(hands)))
+    deeds = list(itertools.product(range(len(machine[1])), repeat=len(hands)))
+    return sorted(tuple(zip(order, row)) for order in orders for row in deeds)
+
+
+def lead(machine, board, deeds):
+    for deed in deeds:
+        board = machine[1][deed][board]
+    return board
+
+
+def first_deeds(history, vector):
+    left, begun = list(vector), []
+    for hand, deed in history:
+        if left[hand] > 0:
+            left[hand] -= 1
+            begun.append((hand, deed))
+    return tuple(begun)
+
+
+def tried_table(machine, hands, history):
+    """The table by its own words: each beginning played from the start on."""
+    counts = tuple(sum(1 for letter in history if letter[0] == hand) for hand in range(hands))
+    vectors = itertools.product(*[range(many + 1) for many in counts])
+    begun = [first_deeds(history, vector) for vector in vectors]
+    return counts, tuple(lead(machine, machine[0], [deed for _, deed in part]) for part in begun)
+
+
+class Trying:
+    """Mixed into test cases."""
+
+    def same(self, got, expected):
+        """Equal, and of the same kinds throughout: tuples, integers and bools are told apart."""
+        self.assertEqual(got, expected)
+        self.assertEqual(repr(got), repr(expected))
+
+    def fails(self, kind, told, call, *given, **named):
+        """The call raises an error of just this class, with what is told in its one attribute."""
+        with self.assertRaises(kind) as caught:
+            call(*given, **named)
+        self.assertIs(caught.exception.__class__, kind)
+        kept = list(vars(caught.exception).values())
+        self.assertEqual(len(kept), 1)
+        if kept[0] is not told:
+            self.same(kept[0], told)
+
+    def untouched(self, call, *given, **named):
+        """Given lists for all tuples: the same answer as for tuples, and no list is changed."""
+        lists = [as_lists(value) for value in given]
+        before = repr(lists)
+        self.same(call(*lists, **named), call(*given, **named))
+        self.assertEqual(repr(lists), before)
