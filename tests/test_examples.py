@@ -38,6 +38,50 @@ LOOKS = '''
     >>> look_alike(ring, (0, 1, 0, 1), light, (0, 1)), parting_row(ring, (0, 0, 0, 1), light, (0, 1))
     (True, (0,))
 '''
+HISTORIES = '''
+    >>> from ownback.histories import alike_for, beginning, boards_shown, history_of, pressed, struck
+    >>> lamp = (0, ((1, 0), (1, 1)))
+    >>> presses = [("deed", 0, 0), ("deed", 1, 1), ("deed", 0, 0), ("back", 1), ("back", 0)]
+    >>> [history_of(lamp, 2, presses), boards_shown(lamp, 2, presses), struck(lamp, 2, presses)]
+    [((0, 0),), (0, 1, 1, 0, 0, 1), ((1, 3), (2, 4))]
+    >>> beginning(lamp, 2, ((1, 1), (0, 0), (1, 0)), (1, 1)), pressed(lamp, 2, ((1, 1), (0, 0)), ("back", 1))
+    (((1, 1), (0, 0)), ((0, 0),))
+    >>> one, other = ((0, 0), (0, 0), (0, 1)), ((0, 1), (0, 1), (0, 1))
+    >>> [alike_for(lamp, 1, one, other, many, most=99) for many in (0, 1)]
+    [True, False]
+'''
+TABLES = '''
+    >>> from ownback.tables import alike, entry, part_of, place_of, rim, table_of, top_board, vectors, with_back, with_deed
+    >>> machine = (0, ((1, 2, 2), (2, 2, 0)))
+    >>> told = table_of(machine, 2, ((0, 0), (1, 1), (0, 1)))
+    >>> vectors((1, 2)), place_of((2, 1), (1, 1)), told, top_board(told), entry(told, (2, 0))
+    (((0, 0), (0, 1), (0, 2), (1, 0), (1, 1), (1, 2)), 3, ((2, 1), (0, 2, 1, 2, 2, 0)), 0, 2)
+    >>> rim(told, 0), with_back(told, 1), part_of(told, (1, 1)), with_deed(machine, ((1, 0), (0, 1)), 1, 0)
+    ((0, 1, 2), ((2, 0), (0, 1, 2)), ((1, 1), (0, 2, 1, 2)), ((1, 1), (0, 1, 1, 2)))
+    >>> alike(machine, 2, ((0, 0), (1, 1)), ((1, 1), (0, 0))), alike(machine, 2, ((0, 1), (0, 1), (1, 0)), ((1, 0), (0, 1), (0, 1)))
+    (True, False)
+'''
+LASTS = '''
+    >>> from ownback.lasts import barring, bars, is_told, last_deeds, lasts, left_over
+    >>> lamp, table, other = (0, ((1, 0), (1, 1))), ((1, 1), (0, 1, 1, 1)), ((1, 1), (0, 0, 1, 1))
+    >>> lasts(lamp, table), last_deeds(lamp, table, 0), is_told(lamp, table)
+    (((0, 1), (1, 1)), (1,), True)
+    >>> left_over(lamp, other), barring(lamp, other), bars(lamp, other, [1, 1]), bars(lamp, other, [0, 1])
+    ((0, 1), (0, 1), False, True)
+'''
+ALL_HISTORIES = '''
+    >>> from ownback.antimatroid import all_histories, beginnings, nth_history, orders_many, step_deeds
+    >>> from ownback.ways import greatest_way, least_way, way_history, way_of, way_order, ways_many
+    >>> lamp, table = (0, ((1, 0), (1, 1))), ((1, 1), (0, 1, 1, 1))
+    >>> all_histories(lamp, table, most=9)
+    (((0, 0), (1, 1)), ((0, 1), (1, 1)), ((1, 0), (0, 1)), ((1, 1), (0, 1)))
+    >>> orders_many(lamp, table), nth_history(lamp, table, 2), step_deeds(lamp, table, (0, 0), 0), beginnings(lamp, table)
+    (2, ((1, 0), (0, 1)), (0, 1), ((0, 0), (0, 1), (1, 0), (1, 1)))
+    >>> least_way(lamp, table), greatest_way(lamp, table), ways_many((0,), (1,)), way_history(lamp, table, (1,))
+    ((0,), (1,), 2, ((1, 0), (0, 1)))
+    >>> way_of((1, 0, 1, 0)), way_order((1, 2), 3)
+    ((1, 2), (1, 0, 1, 0, 1))
+'''
 
 
 class Examples(unittest.TestCase):
@@ -60,6 +104,18 @@ class Examples(unittest.TestCase):
 
     def test_looks(self):
         self.holds(LOOKS)
+
+    def test_histories(self):
+        self.holds(HISTORIES)
+
+    def test_tables(self):
+        self.holds(TABLES)
+
+    def test_lasts(self):
+        self.holds(LASTS)
+
+    def test_all_histories(self):
+        self.holds(ALL_HISTORIES)
 
     def test_readme(self):
         path = pathlib.Path(__file__).resolve().parent.parent / "README.md"

@@ -110,7 +110,7 @@ class Reading(unittest.TestCase, Trying):
             self.same(read_presses(octets[:left]), (tuple(PRESSES[:many]), ends[many]))
 
     def test_all_short_octets(self):
-        for octets in all_rows((0, 1, 3, 4, 5, 6, 255), 4):
+        for octets in all_rows((0, 1, 2, 3, 4, 5, 6, 255), 4):
             presses, behind, wrong = tried_reading(octets)
             if wrong is not None:
                 self.fails(Broken, wrong, read_presses, octets)

@@ -18,6 +18,22 @@ INTERFACE = {
     "looks": "check_looks(machine,looks) alike_boards(machine,looks) parting_deeds(machine,looks,one,other) "
              "least_machine(machine,looks) parting_row(machine,looks,other,others) "
              "look_alike(machine,looks,other,others)",
+    "histories": "check_history(machine,hands,value) counts_of(hands,history) boards(machine,history) "
+                 "board_of(machine,history) beginning(machine,hands,history,vector) "
+                 "pressed(machine,hands,history,press) check_presses(machine,hands,presses) "
+                 "history_of(machine,hands,presses) boards_shown(machine,hands,presses) "
+                 "struck(machine,hands,presses) alike_for(machine,hands,one,other,many,*,most)",
+    "tables": "vectors(counts) place_of(counts,vector) check_table(machine,value) entry(table,vector) top_board(table) "
+              "part_of(table,vector) rim(table,hand) first_table(machine,hands) with_deed(machine,table,hand,deed) "
+              "with_back(table,hand) table_of(machine,hands,history) alike(machine,hands,one,other)",
+    "lasts": "last_deeds(machine,table,hand) lasts(machine,table) left_over(machine,table) is_told(machine,table) "
+             "bars(machine,table,value) barring(machine,table)",
+    "antimatroid": "step_deeds(machine,table,counts,hand) histories_many(machine,table) orders_many(machine,table) "
+                   "nth_history(machine,table,number) all_histories(machine,table,*,most) "
+                   "by_order(machine,table,order) is_order(machine,table,value) beginnings(machine,table)",
+    "ways": "way_of(order) way_order(way,many) least_way(machine,table) greatest_way(machine,table) "
+            "is_way(machine,table,value) way_history(machine,table,way) lower_way(one,other) upper_way(one,other) "
+            "ways_many(low,high)",
 }
 
 

@@ -125,7 +125,7 @@ class Language(unittest.TestCase):
                     self.assertIn(node, held, name)
 
     def test_names(self):
-        every = set(dir(builtins))
+        every = set(dir(builtins)) - {"_"}
         for name, tree in self.trees():
             firm = [alias.name for node in tree.body if isinstance(node, ast.ImportFrom) for alias in node.names]
             firm += [node.name for node in tree.body if isinstance(node, ast.ClassDef)]
@@ -136,6 +136,8 @@ class Language(unittest.TestCase):
                         self.assertNotIn(bound, firm + own, (name, node.name))
                         self.assertNotIn(bound, every, (name, node.name))
                         self.assertNotIn(bound, BARRED, (name, node.name))
+                if isinstance(node, ast.Name) and isinstance(node.ctx, ast.Load):
+                    self.assertNotEqual(node.id, "_", name)
                 if isinstance(node, ast.Name) and node.id in every:
                     self.assertIn(node.id, BUILTINS, name)
                 if isinstance(node, ast.Attribute):

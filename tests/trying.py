@@ -117,3 +117,81 @@ class Trying:
         before = repr(lists)
         self.same(call(*lists, **named), call(*given, **named))
         self.assertEqual(repr(lists), before)
+
+
+def as_dict(table):
+    """By vector the board."""
+    counts, entries = table
+    return dict(zip(itertools.product(*[range(many + 1) for many in counts]), entries))
+
+
+def by_table(machine, counts):
+    """All histories with these counts, those of one table together."""
+    found = {}
+    for history in histories_with(machine, counts):
+        found.setdefault(tried_table(machine, len(counts), history), []).append(history)
+    return found
+
+
+def all_tables(machine, counts):
+    """All that has the form of a table with these counts."""
+    size = 1
+    for many in counts:
+        size *= many + 1
+    return [(counts, entries) for entries in itertools.product(range(len(machine[1][0])), repeat=size)]
+
+
+def tables_to_try():
+    """Machines with all tables of some counts, told or not, and some greater ones that are told, most of them."""
+    found = []
+    for machine, counts in ((SMALL[1], (1, 1)), (LAMP, (1, 1)), (LAMP, (2, 1)), (LAMP, (3,)), (SMALL[4], (2, 1)),
+                            (SMALL[6], (1, 1)), (SMALL[7], (2,)), (SMALL[9], (1, 1)), (SMALL[3], (1, 1, 1)),
+                            (SMALL[5], (1, 0, 1, 0)), (SMALL[6], (0, 0)), (SMALL[5], (0, 2))):
+        found += [(machine, table) for table in all_tables(machine, counts)]
+    chance = random.Random(8)
+    for machine in SMALL + tuple(random_machines(12, 4, 2, seed=21)):
+        for counts in ((2, 2), (1, 2, 1), (3, 1), (1, 1, 1, 1)):
+            for _ in range(4):
+                hands = [hand for hand, many in enumerate(counts) for _ in range(many)]
+                chance.shuffle(hands)
+                history = [(hand, chance.randrange(len(machine[1]))) for hand in hands]
+                entries = list(tried_table(machine, len(counts), history)[1])
+                found.append((machine, (counts, tuple(entries))))
+                entries[chance.randrange(len(entries))] = 0
+                found.append((machine, (counts, tuple(entries))))
+    return found
+
+
+def tried_last(machine, table, counts, hand):
+    """By its own words: the deeds by which the hand's last one can be last among the beginnings up to counts."""
+    entries = as_dict(table)
+    found = []
+    for deed, moves in enumerate(machine[1]):
+        if counts[hand] > 0 and all(moves[entries[less(vector, hand)]] == board for vector, board in entries.items()
+                                    if within(vector, counts) and vector[hand] == counts[hand]):
+            found.append(deed)
+    return tuple(found)
+
+
+def less(vector, hand):
+    return tuple(many - (place == hand) for place, many in enumerate(vector))
+
+
+def within(vector, counts):
+    return all(one <= other for one, other in zip(vector, counts))
+
+
+def greatest_table(counts, machine, seed=0):
+    """A table of some history with these counts."""
+    chance = random.Random(seed)
+    hands = [hand for hand, many in enumerate(counts) for _ in range(many)]
+    chance.shuffle(hands)
+    entries = {(0,) * len(counts): machine[0]}
+    done = [0] * len(counts)
+    for hand in hands:
+        deed = chance.randrange(len(machine[1]))
+        done[hand] += 1
+        for vector in itertools.product(*[range(many + 1) for many in done]):
+            if vector[hand] == done[hand]:
+                entries[vector] = machine[1][deed][entries[less(vector, hand)]]
+    return tuple(counts), tuple(entries[vector] for vector in sorted(entries))
