@@ -163,13 +163,16 @@ def with_back(table, hand):
     return part_up_to(table, moved(table[0], hand, -1))
 
 
-def table_of(machine, hands, history):
-    machine = check_machine(machine)
-    history = check_history(machine, hands, history)
+def table_behind(machine, hands, history):
     table = empty_table(machine, hands)
     for hand, deed in history:
         table = led_on(machine, table, hand, deed)
     return table
+
+
+def table_of(machine, hands, history):
+    machine = check_machine(machine)
+    return table_behind(machine, hands, check_history(machine, hands, history))
 
 
 def alike(machine, hands, one, other):

@@ -82,6 +82,58 @@ ALL_HISTORIES = '''
     >>> way_of((1, 0, 1, 0)), way_order((1, 2), 3)
     ((1, 2), (1, 0, 1, 0, 1))
 '''
+STEPS = '''
+    >>> from ownback.steps import all_led, fewest_steps, some_way, stepped, unseen_steps, way_holds
+    >>> machine, one, other = (0, ((1, 2, 2), (2, 2, 0))), ((1, 0), (1, 1), (0, 0)), ((0, 0), (1, 0), (1, 0))
+    >>> unseen_steps(machine, 2, one), stepped(machine, 2, one, ["put", 1, 0]), fewest_steps(machine, 2, one, other)
+    ((('put', 1, 0),), ((1, 0), (1, 0), (0, 0)), 3)
+    >>> some_way(machine, 2, one, other), way_holds(machine, 2, one, other, [("exchange", 1)])
+    ((('put', 1, 0), ('exchange', 1), ('exchange', 0)), False)
+    >>> all_led(machine, 2, one, most=9)
+    (((0, 0), (1, 0), (1, 0)), ((1, 0), (0, 0), (1, 0)), ((1, 0), (1, 0), (0, 0)), ((1, 0), (1, 1), (0, 0)))
+    >>> fewest_steps(machine, 2, one, ((1, 0), (0, 0), (1, 1))), unseen_steps((0, ((0,),)), 1, ((0, 0),))
+    (None, ())
+'''
+NORMAL = '''
+    >>> from ownback.normal import is_normal, normal, normal_of, renewed
+    >>> machine = (0, ((1, 2, 2), (2, 2, 0)))
+    >>> normal_of(machine, 2, ((1, 1), (0, 0))), normal(machine, ((1, 1), (0, 2, 1, 2))), is_normal(machine, 2, ((0, 0), (1, 1)))
+    (((0, 0), (1, 1)), ((0, 0), (1, 1)), True)
+    >>> normal_of(machine, 3, ((2, 0), (0, 1), (0, 1))), normal_of(machine, 2, ((0, 1), (1, 0), (0, 0)))
+    (((0, 1), (2, 0), (0, 1)), ((0, 1), (0, 0), (1, 0)))
+    >>> renewed(machine, 2, ((0, 1), (1, 0)), ("deed", 0, 0)), renewed(machine, 2, ((0, 1), (1, 0)), ("back", 0))
+    (((0, 1), (0, 0), (1, 0)), ((1, 0),))
+'''
+FINITE = '''
+    >>> from ownback.finite import corner_boards, corner_pairs, finite_machine, parting_history, situations, state_behind
+    >>> lamp = (0, ((1, 0), (1, 1)))
+    >>> corner_boards(lamp, 2, ((0, 0), (1, 1)), (0,)), corner_pairs(lamp, 2, ((0, 0), (1, 1)), 0, ())
+    ((1,), ((0, 1), (1, 1)))
+    >>> toggle = (0, ((1, 0),))
+    >>> finite = finite_machine(toggle, 2, most=99)
+    >>> situations(toggle, 2, most=99)[0], finite
+    (7, (2, 0, ((((0, 0), 0), ((1, 0), 1)), (((1, 0), 1),))))
+    >>> situations(lamp, 2, most=99)[0], finite_machine(lamp, 2, most=99)[0]
+    (14, 9)
+    >>> state_behind(finite, ((0, 0), (1, 0))), state_behind(finite, ((1, 0), (0, 0))), parting_history(finite, 0, 1)
+    (1, None, ((0, 0),))
+'''
+COUNTS = '''
+    >>> from ownback.counts import count, count_matrix, count_table, recurrence, totals
+    >>> light = (0, ((1, 0), (0, 1)))
+    >>> count(light, (2, 1), most=99), count_table(light, (1, 2), most=99), totals(light, 2, 5, most=99)
+    (8, (1, 2, 4, 2, 4, 8), (1, 4, 12, 32, 80, 192))
+    >>> count_matrix(light, 2, most=99), recurrence(light, 2, most=99), recurrence((0, ((1, 0),)), 1, most=99)
+    ((((2, 0), (0, 0)), ((0, 2), (0, 2))), (4, -4), (1,))
+'''
+RANKS = '''
+    >>> light = (0, ((1, 0), (0, 1)))
+    >>> from ownback.ranks import packed, rank_of, ranked, unpacked
+    >>> rank_of(light, 2, ((1, 0), (0, 1)), most=99), ranked(light, (1, 1), 2, most=99), packed(light, 2, ((0, 1), (1, 1)), most=99)
+    (2, ((0, 1), (1, 0)), (3,))
+    >>> unpacked(light, (1, 1), (0,), most=99)
+    ((0, 0), (1, 0))
+'''
 
 
 class Examples(unittest.TestCase):
@@ -116,6 +168,21 @@ class Examples(unittest.TestCase):
 
     def test_all_histories(self):
         self.holds(ALL_HISTORIES)
+
+    def test_steps(self):
+        self.holds(STEPS)
+
+    def test_normal(self):
+        self.holds(NORMAL)
+
+    def test_finite(self):
+        self.holds(FINITE)
+
+    def test_counts(self):
+        self.holds(COUNTS)
+
+    def test_ranks(self):
+        self.holds(RANKS)
 
     def test_readme(self):
         path = pathlib.Path(__file__).resolve().parent.parent / "README.md"

@@ -34,6 +34,19 @@ INTERFACE = {
     "ways": "way_of(order) way_order(way,many) least_way(machine,table) greatest_way(machine,table) "
             "is_way(machine,table,value) way_history(machine,table,way) lower_way(one,other) upper_way(one,other) "
             "ways_many(low,high)",
+    "steps": "unseen_steps(machine,hands,history) stepped(machine,hands,history,step) "
+             "fewest_steps(machine,hands,one,other) some_way(machine,hands,one,other) "
+             "way_holds(machine,hands,one,other,value) all_led(machine,hands,history,*,most)",
+    "normal": "normal(machine,table) normal_of(machine,hands,history) is_normal(machine,hands,history) "
+              "renewed(machine,hands,history,press)",
+    "finite": "corner_boards(machine,hands,history,lot) corner_pairs(machine,hands,history,hand,lot) "
+              "situations(machine,hands,*,most) finite_machine(machine,hands,*,most) check_words(value) "
+              "state_behind(finite,history) parting_history(finite,one,other)",
+    "counts": "count(machine,counts,*,most) count_table(machine,counts,*,most) count_matrix(machine,hands,*,most) "
+              "totals(machine,hands,last,*,most) recurrence(machine,hands,*,most)",
+    "ranks": "rank_of(machine,hands,history,*,most) ranked(machine,counts,number,*,most) "
+             "fewest_octets(machine,counts,*,most) packed(machine,hands,history,*,most) "
+             "unpacked(machine,counts,octets,*,most)",
 }
 
 

@@ -33,6 +33,16 @@ STATEMENTS = (ast.Global, ast.AsyncFunctionDef, ast.AsyncFor, ast.AsyncWith, ast
 LOOPED = (ast.For, ast.comprehension)
 
 
+def methods_of(made):
+    return [node.name for node in made.body if isinstance(node, ast.FunctionDef)]
+
+
+def attributes_of(made):
+    """The attributes that methods of a class assign to its own objects."""
+    return [node.attr for node in ast.walk(made) if isinstance(node, ast.Attribute) and isinstance(node.ctx, ast.Store)
+            and isinstance(node.value, ast.Name) and node.value.id == "self"]
+
+
 def names_bound(function):
     found = [arg.arg for arg in ast.walk(function) if isinstance(arg, ast.arg)]
     for node in ast.walk(function):
@@ -124,8 +134,29 @@ class Language(unittest.TestCase):
                 if made or isinstance(node, ast.SetComp):
                     self.assertIn(node, held, name)
 
+    def classes(self):
+        for name, tree in self.trees():
+            for node in tree.body:
+                if isinstance(node, ast.ClassDef):
+                    yield name, node
+
+    def test_classes(self):
+        kept = set("items keys values pop update append clear extend insert remove reverse setdefault sort args encode "
+                   "decode hex fromhex format format_map".split())
+        for name, made in self.classes():
+            methods, attributes = methods_of(made), attributes_of(made)
+            self.assertEqual(len(methods), len(set(methods)), (name, made.name))
+            self.assertFalse(set(methods) & set(attributes), (name, made.name))
+            self.assertFalse(set(attributes) & kept, (name, made.name))
+            self.assertFalse(set(methods + attributes) & set(BARRED), (name, made.name))
+            self.assertFalse(set(methods) & set(dir(int) + dir(str) + dir(list) + dir(dict) + dir(set)) - {"__init__"},
+                             (name, made.name))
+
     def test_names(self):
         every = set(dir(builtins)) - {"_"}
+        known = set(METHODS)
+        for _, made in self.classes():
+            known |= set(methods_of(made)) | set(attributes_of(made))
         for name, tree in self.trees():
             firm = [alias.name for node in tree.body if isinstance(node, ast.ImportFrom) for alias in node.names]
             firm += [node.name for node in tree.body if isinstance(node, ast.ClassDef)]
@@ -141,7 +172,7 @@ class Language(unittest.TestCase):
                 if isinstance(node, ast.Name) and node.id in every:
                     self.assertIn(node.id, BUILTINS, name)
                 if isinstance(node, ast.Attribute):
-                    self.assertTrue(node.attr in METHODS | {"at", "value", "most"}, (name, node.attr))
+                    self.assertIn(node.attr, known, (name, node.attr))
                 if isinstance(node, ast.FunctionDef) and node.name.startswith("__"):
                     self.assertEqual(node.name, "__init__")
 
