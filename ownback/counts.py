@@ -1,13 +1,12 @@
 """How many kinds of histories there are: words of the finite machine, counted."""
 
-from math import gcd
-
 from ownback.checks import is_number
 from ownback.corners import Atlas
 from ownback.errors import Refused
 from ownback.finite import atlas_of, least_words
 from ownback.machines import check_machine
 from ownback.tables import check_counts, moved, vectors_of
+from ownback.weights import reduced
 
 
 def rows_within(atlas, counts):
@@ -81,14 +80,6 @@ def totals(machine, hands, last, *, most):
     if not is_number(last):
         raise Refused(last)
     return words_by_length(least_words(atlas), last)
-
-
-def reduced(row):
-    """A row of integers, not all noughts, without their common divisor."""
-    divisor = 0
-    for number in row:
-        divisor = gcd(divisor, number)
-    return [number // divisor for number in row]
 
 
 def bent(row, gap, before, gap_before, shift):

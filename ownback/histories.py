@@ -11,12 +11,21 @@ def check_hands(hands):
         raise Refused(hands)
 
 
+def is_letter(value, hands, many):
+    return is_pair(value) and is_below(value[0], hands) and is_below(value[1], many)
+
+
+def is_history(value, hands, many):
+    """Whether any value is a history of so many hands, of a machine with so many deeds."""
+    return is_sequence(value) and all([is_letter(item, hands, many) for item in value])
+
+
 def as_history(value, hands, many):
-    """Any value as a history of so many hands, of a machine with so many deeds."""
+    """Any value as such a history."""
     if not is_sequence(value):
         raise BadHistory(-1)
     for at, item in enumerate(value):
-        if not is_pair(item) or not is_below(item[0], hands) or not is_below(item[1], many):
+        if not is_letter(item, hands, many):
             raise BadHistory(at)
     return as_rows(value)
 
@@ -25,6 +34,12 @@ def check_history(machine, hands, value):
     machine = check_machine(machine)
     check_hands(hands)
     return as_history(value, hands, len(machine[1]))
+
+
+def check_two(machine, hands, one, other):
+    """The machine, and two histories."""
+    machine = check_machine(machine)
+    return machine, check_history(machine, hands, one), check_history(machine, hands, other)
 
 
 def standing(hands, history):
@@ -176,9 +191,7 @@ def shows_one(machine, hands, pair):
 
 
 def alike_for(machine, hands, one, other, many, *, most):
-    machine = check_machine(machine)
-    one = check_history(machine, hands, one)
-    other = check_history(machine, hands, other)
+    machine, one, other = check_two(machine, hands, one, other)
     if not is_number(many):
         raise Refused(many)
     if not is_number(most) or most < 1:

@@ -3,7 +3,7 @@
 from ownback.antimatroid import all_histories
 from ownback.checks import is_below, is_sequence
 from ownback.errors import Refused
-from ownback.histories import check_history
+from ownback.histories import check_history, check_two
 from ownback.machines import check_machine
 from ownback.tables import table_behind, table_of
 
@@ -56,12 +56,8 @@ def stepped(machine, hands, history, step):
     return behind
 
 
-def checked_two(machine, hands, one, other):
-    """The machine, both histories, and whether they are alike."""
-    machine = check_machine(machine)
-    one = check_history(machine, hands, one)
-    other = check_history(machine, hands, other)
-    return machine, one, other, table_behind(machine, hands, one) == table_behind(machine, hands, other)
+def are_alike(machine, hands, one, other):
+    return table_behind(machine, hands, one) == table_behind(machine, hands, other)
 
 
 def numbered(history):
@@ -83,8 +79,8 @@ def unlike_things(one, other):
 
 
 def fewest_steps(machine, hands, one, other):
-    machine, one, other, are_alike = checked_two(machine, hands, one, other)
-    return unlike_things(one, other) if are_alike else None
+    machine, one, other = check_two(machine, hands, one, other)
+    return unlike_things(one, other) if are_alike(machine, hands, one, other) else None
 
 
 def way_between(one, other):
@@ -103,12 +99,12 @@ def way_between(one, other):
 
 
 def some_way(machine, hands, one, other):
-    machine, one, other, are_alike = checked_two(machine, hands, one, other)
-    return way_between(one, other) if are_alike else None
+    machine, one, other = check_two(machine, hands, one, other)
+    return way_between(one, other) if are_alike(machine, hands, one, other) else None
 
 
 def way_holds(machine, hands, one, other, value):
-    machine, one, other, _ = checked_two(machine, hands, one, other)
+    machine, one, other = check_two(machine, hands, one, other)
     if not is_sequence(value):
         return False
     table = table_behind(machine, hands, one)

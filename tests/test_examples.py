@@ -126,6 +126,58 @@ COUNTS = '''
     >>> count_matrix(light, 2, most=99), recurrence(light, 2, most=99), recurrence((0, ((1, 0),)), 1, most=99)
     ((((2, 0), (0, 0)), ((0, 2), (0, 2))), (4, -4), (1,))
 '''
+GROWTH = '''
+    >>> from ownback.growth import bits_in, counted, growth, limited, loops, period, rate_holds, rate_paper, rate_parts
+    >>> light = (2, 0, ((((0, 0), 0), ((1, 0), 1)), (((1, 0), 1),)))
+    >>> counted(light, 4), loops(light), period(light), growth(light), rate_parts(light, 100), bits_in(light, 9)
+    ((1, 2, 3, 4, 5), ((0,), (1,)), 1, ('power', 1), 100, 0)
+    >>> gold = (2, 0, ((((0, 0), 0), ((1, 0), 1)), (((0, 0), 0),)))
+    >>> counted(gold, 6), growth(gold), rate_parts(gold, 100), bits_in(gold, 10), growth(limited(gold, (None, 2)))
+    ((1, 2, 3, 5, 8, 13, 21), ('multiplied',), 161, 6, ('power', 2))
+    >>> rate_paper(gold, 8, 5)[0], rate_holds(gold, 3, 2, ("reached", [2, 1])), rate_holds(gold, 2, 1, ("below", (3, 2)))
+    ('reached', True, True)
+    >>> turn = (3, 0, ((((0, 0), 1),), (((0, 1), 2), ((1, 0), 0)), ()))
+    >>> counted(turn, 5), growth(turn), growth(limited(turn, [1])), period(turn)
+    ((1, 1, 2, 1, 2, 1), ('bounded', 2), ('bounded', 1), 2)
+'''
+COST = '''
+    >>> from ownback.cost import clash, costs_nothing, kinds_beside, rims_hold, two_of_one_rim
+    >>> light, setting = (0, ((1, 0),)), (0, ((0, 0, 0), (1, 2, 1)))
+    >>> costs_nothing(light), kinds_beside(light, (2, 3), most=99), kinds_beside((0, ((0, 1), (1, 0))), (1, 1), most=99)
+    (True, (1, 1), (4, 4))
+    >>> clash(setting), kinds_beside(setting, (1, 1), most=99)
+    (((), 0, 1), (6, 4))
+    >>> two_of_one_rim(setting), rims_hold(setting, 2, two_of_one_rim(setting))
+    ((((0, 0), (1, 1)), ((1, 1), (0, 0))), True)
+'''
+DESKS = '''
+    >>> from ownback.desks import desk_apart, desk_kinds, is_right, keeper_desk
+    >>> from ownback.keeper import Keeper
+    >>> setting = (0, ((0, 0, 0), (1, 2, 1)))
+    >>> keeper = Keeper(setting, 2)
+    >>> [keeper.take(press) for press in (("deed", 1, 0), ("deed", 0, 1), ("back", 1))], keeper.board_now(), keeper.standing()
+    ([((1, 0),), ((1, 0), (0, 1)), ((0, 1),)], 1, (1, 0))
+    >>> desk = keeper_desk(setting, 2, 1, most=99)
+    >>> len(desk[1]), desk[1][0], is_right(setting, 2, desk, 1, most=99)
+    (5, (0, ((1, 2), (3, 4)), (0, 0)), True)
+    >>> wrong = (0, ((0, ((0, 1),) * 2, (0, 0)), (1, ((0, 1),) * 2, (0, 0))))
+    >>> len(desk_apart(setting, 2, wrong, 2, most=99)), desk_kinds(setting, 1, (0, ((0, ((0, 0),), (0,)),)), 0, most=9)
+    (2, (((0,), 0, ()),))
+'''
+PARTING = '''
+    >>> from ownback.parting import fewest_presses, nearest, parted_at, parting, plan, plan_holds, plan_presses
+    >>> machine = (0, ((1, 2, 2), (2, 2, 0)))
+    >>> one, other = ((1, 1), (0, 0), (0, 0)), ((1, 0), (0, 0), (0, 0))
+    >>> nearest(machine, 2, one, other), parting(machine, 2, one, other), fewest_presses(machine, 2, one, one)
+    (((0, 1),), (('back', 0), ('back', 0)), None)
+    >>> parted_at(machine, 2, one, other, [("back", 0), ("deed", 1, 0), ("back", 0), ("back", 1)]), parting(machine, 2, one, ())
+    (4, ())
+    >>> some = (((0, 0), (1, 1)), ((0, 1), (1, 0)), ((0, 1), (1, 1)))
+    >>> plan(machine, 2, some), plan_presses(machine, 2, some)
+    (((0, ('are', (2,))), (2, ('back', 0, ((1, ('are', (1,))), (2, ('are', (0,))))))), 1)
+    >>> plan_presses(machine, 2, (((0, 0), (1, 0)), some[0], some[1])), plan_holds(machine, 2, some[:1], [(2, ["are", [0]])])
+    (None, True)
+'''
 RANKS = '''
     >>> light = (0, ((1, 0), (0, 1)))
     >>> from ownback.ranks import packed, rank_of, ranked, unpacked
@@ -180,6 +232,18 @@ class Examples(unittest.TestCase):
 
     def test_counts(self):
         self.holds(COUNTS)
+
+    def test_growth(self):
+        self.holds(GROWTH)
+
+    def test_cost(self):
+        self.holds(COST)
+
+    def test_desks(self):
+        self.holds(DESKS)
+
+    def test_parting(self):
+        self.holds(PARTING)
 
     def test_ranks(self):
         self.holds(RANKS)

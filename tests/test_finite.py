@@ -8,9 +8,7 @@ from ownback.finite import (
     check_words, corner_boards, corner_pairs, finite_machine, parting_history, situations, state_behind,
 )
 from ownback.normal import is_normal
-from tests.trying import (
-    LAMP, ODD, SMALL, Trying, all_rows, first_deeds, histories_with, random_machines, tried_table,
-)
+from tests.trying import LAMP, ODD, SMALL, Trying, all_rows, counts_in, first_deeds, histories_with, random_machines
 
 TOGGLE = SMALL[1]
 MACHINES = SMALL + tuple(random_machines(8, 3, 2, seed=91))
@@ -30,10 +28,6 @@ def board_behind(machine, history, vector):
     for _, deed in first_deeds(history, vector):
         board = machine[1][deed][board]
     return board
-
-
-def counts_in(hands, history):
-    return tuple(sum(letter[0] == hand for letter in history) for hand in range(hands))
 
 
 def tried_boards(machine, hands, history, lot):

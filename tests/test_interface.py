@@ -47,6 +47,22 @@ INTERFACE = {
     "ranks": "rank_of(machine,hands,history,*,most) ranked(machine,counts,number,*,most) "
              "fewest_octets(machine,counts,*,most) packed(machine,hands,history,*,most) "
              "unpacked(machine,counts,octets,*,most)",
+    "growth": "counted(words,last) come_to(words) loops(words) period(words) growth(words) limited(words,limits) "
+              "rate_paper(words,top,bottom) rate_holds(words,top,bottom,value) rate_parts(words,bottom) "
+              "bits_in(words,length)",
+    "cost": "kinds_beside(machine,counts,*,most) clash(machine) costs_nothing(machine) two_of_one_rim(machine) "
+            "rims_hold(machine,hands,value)",
+    "keeper": "Keeper(machine,hands)",
+    "desks": "check_desk(machine,hands,value) desk_apart(machine,hands,desk,limit,*,most) "
+             "is_right(machine,hands,desk,limit,*,most) desk_kinds(machine,hands,desk,limit,*,most) "
+             "keeper_desk(machine,hands,limit,*,most)",
+    "parting": "nearest(machine,hands,one,other) parting(machine,hands,one,other) "
+               "fewest_presses(machine,hands,one,other) parted_at(machine,hands,one,other,presses) "
+               "plan_presses(machine,hands,histories) plan(machine,hands,histories) "
+               "plan_holds(machine,hands,histories,value)",
+}
+METHODS = {
+    ("keeper", "Keeper"): "take(self,press) take_all(self,presses) board_now(self) standing(self) twin(self)",
 }
 
 
@@ -68,3 +84,11 @@ class Interface(unittest.TestCase):
                 if given:
                     signature = str(inspect.signature(getattr(found, name))).replace(" ", "")
                     self.assertEqual(signature, "(" + given, name)
+
+    def test_methods_are_defined_in_the_class_itself(self):
+        for (module, name), methods in METHODS.items():
+            made = getattr(importlib.import_module("ownback." + module), name)
+            for told in methods.split():
+                method, _, given = told.partition("(")
+                signature = str(inspect.signature(vars(made)[method])).replace(" ", "")
+                self.assertEqual(signature, "(" + given, method)

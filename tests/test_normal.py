@@ -5,8 +5,8 @@ import unittest
 from ownback.errors import BadHistory, BadMachine, BadTable, NoDeed, NoHand, Refused
 from ownback.normal import is_normal, normal, normal_of, renewed
 from tests.trying import (
-    LAMP, ODD, SMALL, Trying, by_table, first_deeds, greatest_table, less, presses_of, random_machines, tables_to_try,
-    tried_last, tried_table,
+    LAMP, ODD, SMALL, Trying, behind_press, by_table, first_deeds, greatest_table, less, presses_of, random_machines,
+    tables_to_try, tried_last, tried_table,
 )
 
 MACHINES = SMALL + tuple(random_machines(10, 4, 3, seed=55))
@@ -28,13 +28,6 @@ def normal_by_words(machine, table):
 def last_first(history):
     """By which a normal history is the greatest one by hands, the least by deeds, looked at from the end."""
     return [(-hand, deed) for hand, deed in reversed(history)]
-
-
-def behind_press(history, press):
-    if press[0] == "deed":
-        return history + (press[1:],)
-    places = [at for at, letter in enumerate(history) if letter[0] == press[1]]
-    return history[:places[-1]] + history[places[-1] + 1:] if places else None
 
 
 def cases():

@@ -76,6 +76,22 @@ def lead(machine, board, deeds):
     return board
 
 
+def board_of(machine, history):
+    return lead(machine, machine[0], [deed for _, deed in history])
+
+
+def counts_in(hands, history):
+    return tuple(sum(letter[0] == hand for letter in history) for hand in range(hands))
+
+
+def behind_press(history, press):
+    """The history behind a press, None if it cannot be made."""
+    if press[0] == "deed":
+        return history + (press[1:],)
+    places = [at for at, letter in enumerate(history) if letter[0] == press[1]]
+    return history[:places[-1]] + history[places[-1] + 1:] if places else None
+
+
 def first_deeds(history, vector):
     left, begun = list(vector), []
     for hand, deed in history:
