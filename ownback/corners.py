@@ -98,7 +98,7 @@ class Atlas:
         """The situation behind a letter that leads to a normal history."""
         bit = 1 << hand
         grown = grown_lots(self.boards[deed], corners, bit)
-        pairs = [grown_lots(self.pairs[deed], lots, bit) if lots else () for lots in asked[:hand]]
+        pairs = [grown_lots(self.pairs[deed], lots, bit) for lots in asked[:hand]]
         # Hand 0 is never open: no hand is less.
         own = [self.doing[deed].lot_led(corners[lot | bit]) for lot in range(len(corners))] if hand > 0 else []
         pairs.append(tuple(own))

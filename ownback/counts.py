@@ -83,7 +83,7 @@ def totals(machine, hands, last, *, most):
 
 
 def bent(row, gap, before, gap_before, shift):
-    """A row that goes on right where this one first went wrong, as an earlier one did so many places ago."""
+    """A row that goes on right where this one first goes wrong, as an earlier one did so many places ago."""
     size = max(len(row), len(before) + shift)
     ours = row + [0] * (size - len(row))
     theirs = [0] * shift + before + [0] * (size - shift - len(before))
@@ -93,22 +93,21 @@ def bent(row, gap, before, gap_before, shift):
 def shortest_recurrence(numbers):
     """The shortest row of integers by which each of these numbers hangs on those ahead of it (Berlekamp, Massey).
 
-    The rows tell what is 0: so many times a number, less so many times the one ahead, and so on. No fraction is
+    Rows tell what sums up to 0: so many times a number, so many times the one ahead of it, and so on. No fraction is
     needed, as each row may be taken so many times.
     """
     row, before = [1], [1]
-    length, shift, gap_before = 0, 1, 1
+    shift, gap_before = 1, 1
     for at in range(len(numbers)):
-        gap = sum([number * numbers[at - back] for back, number in enumerate(row) if back <= at])
+        gap = sum([many * numbers[at - back] for back, many in enumerate(row) if back <= at])
         if gap != 0:
             longer = bent(row, gap, before, gap_before, shift)
-            if 2 * length <= at:
+            if len(longer) > len(row):
                 before, gap_before, shift = row, gap, 0
-                length = at + 1 - length
             row = longer
         shift += 1
-    # With integers alone the first number of the row divides all of it, by Fatou's theorem.
-    return tuple([-number // row[0] for number in row[1:]] + [0] * (length + 1 - len(row)))
+    # By Fatou's theorem the first of these integers, which have no common divisor, is 1 or -1.
+    return tuple([-many // row[0] for many in row[1:]])
 
 
 def recurrence(machine, hands, *, most):

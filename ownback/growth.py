@@ -68,7 +68,7 @@ def greatest_number(shape, turn):
     found = numbers_by_loops(shape, settled + max(sizes, default=0))
     most = max([sum(list(numbers.values())) for numbers in found])
     for late in range(turn):
-        most = max(most, sum([found[settled + late % size].get(size, 0) for size in sizes]))
+        most = max(most, sum([found[settled + late % size][size] for size in sizes]))
     return most
 
 

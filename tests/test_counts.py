@@ -3,7 +3,7 @@ import random
 import time
 import unittest
 
-from ownback.counts import count, count_matrix, count_table, recurrence, totals
+from ownback.counts import count, count_matrix, count_table, recurrence, shortest_recurrence, totals
 from ownback.errors import BadMachine, NoHand, Refused, TooGreat
 from ownback.finite import finite_machine, situations
 from ownback.tables import vectors
@@ -49,7 +49,7 @@ class Counted(unittest.TestCase, Trying):
 
     def test_against_all_histories(self):
         for machine in MACHINES:
-            for counts in ((0,), (4,), (2, 2), (1, 3), (0, 3), (1, 1, 1), (2, 0, 2), (1, 0, 1, 1)):
+            for counts in ((0,), (4,), (2, 2), (1, 3), (0, 3), (1, 1, 1), (2, 0, 2), (0, 3, 1), (0, 2, 2), (1, 0, 1, 1)):
                 self.same(count(machine, counts, most=2000), len(by_table(machine, counts)))
 
     def test_table(self):
@@ -171,6 +171,43 @@ class Recurrence(unittest.TestCase, Trying):
         windows = [numbers[at:at + size] for at in range(len(numbers) - size)]
         longer = [numbers[at:at + size + 1] for at in range(len(numbers) - size)]
         return rank(windows) == rank(longer)
+
+    def test_long_ones(self):
+        lengths = []
+        for maps in (((1, 2, 1), (2, 0, 1)), ((1, 1, 2), (2, 1, 0)), ((0, 2, 2), (1, 0, 2)), ((1, 2, 0), (0, 0, 1))):
+            machine = (0, maps)
+            states = finite_machine(machine, 2, most=999)[0]
+            row = recurrence(machine, 2, most=999)
+            numbers = totals(machine, 2, 2 * states + 40, most=999)
+            self.assertTrue(recurs(row, numbers))
+            self.assertFalse(self.has_shorter(len(row) - 1, numbers))
+            lengths.append((states, len(row)))
+        self.assertGreater(max(lengths)[0], 30)
+        self.assertGreater(max(many for _, many in lengths), 5)
+
+    def test_nearly_as_long_as_there_are_states(self):
+        nearly = 0
+        for machine in random_machines(60, 7, 3, seed=63):
+            states = finite_machine(machine, 1, most=999)[0]
+            row = recurrence(machine, 1, most=999)
+            nearly += 2 * len(row) > states + 3
+            numbers = totals(machine, 1, 40, most=999)
+            self.assertTrue(recurs(row, numbers))
+            self.assertFalse(self.has_shorter(len(row) - 1, numbers))
+        self.assertGreater(nearly, 5)
+
+    def test_of_any_integers(self):
+        chance = random.Random(64)
+        for _ in range(400):
+            size = chance.randint(1, 6)
+            row = [chance.choice((0, 0, 1, -1, 2)) for _ in range(size)]
+            numbers = [chance.choice((0, 0, 1, 3)) for _ in range(size)]
+            while len(numbers) < 30:
+                numbers.append(sum(row[back] * numbers[-1 - back] for back in range(size)))
+            found = shortest_recurrence(numbers)
+            self.assertTrue(recurs(found, numbers))
+            if found:
+                self.assertFalse(self.has_shorter(len(found) - 1, numbers))
 
     def test_told_ones(self):
         self.same(recurrence((0, ((0,),)), 1, most=9), (1,))

@@ -198,21 +198,22 @@ class Growth(unittest.TestCase, Trying):
             told = rate_paper(words, 4 * many + 1, 4 * many)[0]
             self.assertEqual(growth(words) == ("multiplied",), told == "reached")
 
-    def test_several_loops_at_once(self):
-        # Loops of 2, 3 and 5 states, each with one word more than the others now and then.
-        steps, letters = [[]], 0
-        for size in (2, 3, 5):
+    def test_most_words_come_late(self):
+        # Loops of 2, 3 and 5 states, two words more where 1, 2, 2 steps were done in them: together first behind 17.
+        steps = [[]]
+        for size, peak in ((2, 1), (3, 2), (5, 2)):
+            begin = len(steps)
+            steps[0].append(((0, begin), begin))
             for at in range(size):
-                steps.append([((0, 0), len(steps) + 1 if at < size - 1 else len(steps) - size + 1)])
-            for place in range(size - 1):
-                steps[0].append(((1, letters), len(steps) - size + place))
-                letters += 1
+                steps.append([((0, 0), begin + (at + 1) % size)])
+            steps[begin + peak] += [((1, 0), -1), ((1, 1), -1)]
         steps.append([])
-        for state in (1, 3, 6):
-            steps[state].append(((2, 0), len(steps) - 1))
-        words = (len(steps), 0, tuple(tuple(row) for row in steps))
-        self.same(growth(words), ("bounded", max(numbers(words, 200))))
-        self.assertEqual(period(words), 30)
+        last = len(steps) - 1
+        words = (len(steps), 0, tuple(tuple((letter, last if to < 0 else to) for letter, to in row) for row in steps))
+        found = numbers(words, 100)
+        self.assertEqual(found.index(max(found)), 19)
+        self.same((growth(words), period(words)), (("bounded", 9), 30))
+        self.same(growth(words), ("bounded", max(found)))
 
     def test_most_words_come_early(self):
         words = (3, 0, ((((0, 0), 1), ((0, 1), 1), ((0, 2), 2)), (), (((0, 0), 2),)))

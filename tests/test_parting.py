@@ -288,6 +288,14 @@ class Several(unittest.TestCase, Trying):
         self.same(plan(machine, 2, some), told)
         self.same(plan(machine, 2, some + some[:1])[0][1][2], ((1, ("are", (0, 2))), (2, ("are", (1,)))))
 
+    def test_backs_that_cannot_be_made(self):
+        for hand, history in ((1, ((0, 0),)), (0, ((1, 0),)), (2, ((0, 0),))):
+            for board in (0, 1):
+                rows = [(1, ("back", hand, [(board, ("are", (0,)))]))]
+                self.same(plan_holds(LAMP, 3, [history], rows), False)
+                self.same(plan_holds(LAMP, 3, [history, history], [(1, ("back", hand, [(board, ("are", (0, 1)))]))]), False)
+        self.same(plan_holds(LAMP, 3, [((0, 0),)], [(1, ("back", 0, [(0, ("are", (0,)))]))]), True)
+
     def test_any_value_as_a_plan(self):
         some = (((0, 0), (1, 1)), ((0, 1), (1, 0)), ((0, 1), (1, 1)))
         good = plan(CHAIN, 2, some)

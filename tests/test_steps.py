@@ -98,6 +98,14 @@ class Steps(unittest.TestCase, Trying):
             if value not in unseen:
                 self.fails(Refused, value, stepped, SMALL[6], 2, history, value)
 
+    def test_steps_have_their_own_words(self):
+        still, history = (0, ((0,), (0,))), ((0, 0), (1, 0))
+        self.same(unseen_steps(still, 2, history), (("exchange", 0), ("put", 0, 1), ("put", 1, 1)))
+        for value in (("deed", 0, 1), ("exchange", 0, 1), ("back", 0), ("put", 0), (None, 0, 1), (0, 0, 1), ("putt", 0, 1)):
+            self.fails(Refused, value, stepped, still, 2, history, value)
+            self.same(way_holds(still, 2, history, ((0, 1), (1, 0)), [value]), False)
+            self.same(way_holds(still, 2, history, ((1, 0), (0, 0)), [value]), False)
+
     def test_few_deeds(self):
         self.same(unseen_steps(LAMP, 3, ()), ())
         self.same(unseen_steps((0, ((0,), (0,), (0,))), 1, [[0, 1]]), (("put", 0, 0), ("put", 0, 2)))
