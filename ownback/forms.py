@@ -69,10 +69,9 @@ def press_at(octets, at):
     return press_of_form(form), at + len(form)
 
 
-def whole_presses(octets):
-    """The presses that are whole, and the place behind them."""
+def whole_presses(octets, at):
+    """From a place on the presses that are whole, and the place behind them."""
     presses = []
-    at = 0
     begun, span = begun_at(octets, at, span_in_press)
     while span is None:
         presses.append(press_of_form(begun))
@@ -82,12 +81,12 @@ def whole_presses(octets):
 
 
 def read_presses(octets):
-    return whole_presses(check_octets(octets))
+    return whole_presses(check_octets(octets), 0)
 
 
 def healing(octets):
     octets = check_octets(octets)
-    behind = whole_presses(octets)[1]
+    behind = whole_presses(octets, 0)[1]
     if behind == len(octets):
         return ()
     begun = list(octets[behind:])

@@ -71,10 +71,8 @@ def board_of(machine, history):
     return boards(machine, history)[-1]
 
 
-def beginning(machine, hands, history, vector):
-    history = check_history(machine, hands, history)
-    if not are_within(vector, standing(hands, history)):
-        raise Refused(vector)
+def first_letters(history, vector):
+    """So many first letters of each hand, as they stand."""
     left = list(vector)
     begun = []
     for hand, deed in history:
@@ -82,6 +80,18 @@ def beginning(machine, hands, history, vector):
             left[hand] -= 1
             begun.append((hand, deed))
     return tuple(begun)
+
+
+def check_within(hands, history, vector):
+    """As many numbers as there are hands, none greater than what stands of its hand."""
+    if not are_within(vector, standing(hands, history)):
+        raise Refused(vector)
+    return tuple(vector)
+
+
+def beginning(machine, hands, history, vector):
+    history = check_history(machine, hands, history)
+    return first_letters(history, check_within(hands, history, vector))
 
 
 def has_deed(history, hand):
@@ -94,18 +104,28 @@ def without_last(history, hand):
     return history[:last] + history[last + 1:]
 
 
-def press_made(machine, hands, history, press):
-    """The history behind a press, which alone is still to be checked."""
-    told = check_press(press)
-    hand = told[1]
+def check_hand_below(hands, hand):
     if hand >= hands:
         raise NoHand(hand)
+
+
+def press_told(machine, hands, press):
+    """A press of one of these hands, with a deed of the machine: whether it can be made is still to be seen."""
+    told = check_press(press)
+    check_hand_below(hands, told[1])
     if told[0] == "deed":
         check_deed(machine, told[2])
+    return told
+
+
+def press_made(machine, hands, history, press):
+    """The history behind a press, which alone is still to be checked."""
+    told = press_told(machine, hands, press)
+    if told[0] == "deed":
         return history + (told[1:],)
-    if not has_deed(history, hand):
+    if not has_deed(history, told[1]):
         raise Refused(press)
-    return without_last(history, hand)
+    return without_last(history, told[1])
 
 
 def pressed(machine, hands, history, press):

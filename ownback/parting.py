@@ -26,17 +26,21 @@ def nearest(machine, hands, one, other):
     return nearest_in(one, other)
 
 
+def backs_to(counts, vector):
+    """Hand by hand the backs that lead from these counts to a vector of them."""
+    backs = []
+    for hand, many in enumerate(vector):
+        backs.extend([("back", hand)] * (counts[hand] - many))
+    return tuple(backs)
+
+
 def parting(machine, hands, one, other):
     one, other = two_tables(machine, hands, one, other)
     if one == other:
         return None
     vectors = nearest_in(one, other)
-    backs = []
-    if vectors:
-        # Of the nearest vectors the least one has the least row of backs: more of the least hands.
-        for hand, many in enumerate(vectors[0]):
-            backs.extend([("back", hand)] * (one[0][hand] - many))
-    return tuple(backs)
+    # Of the nearest vectors the least one has the least row of backs: more of the least hands.
+    return backs_to(one[0], vectors[0]) if vectors else ()
 
 
 def fewest_presses(machine, hands, one, other):

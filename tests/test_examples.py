@@ -178,13 +178,109 @@ PARTING = '''
     >>> plan_presses(machine, 2, (((0, 0), (1, 0)), some[0], some[1])), plan_holds(machine, 2, some[:1], [(2, ["are", [0]])])
     (None, True)
 '''
-RANKS = '''
+OVERVIEW = '''
+    >>> from ownback.picture import compare, price
+    >>> from ownback.world import World
+    >>> lamp = (0, ((1, 0), (0, 0)))
+    >>> world = World(lamp, 2)
+    >>> [world.take(press)[0] for press in (("deed", 0, 0), ("deed", 1, 1), ("back", 0), ("deed", 0, 0), ("back", 1))]
+    [1, 0, 0, 1, 1]
+    >>> compare(lamp, 2, ((0, 0), (1, 0)), ((1, 0), (0, 0))), compare(lamp, 2, ((0, 0), (1, 1)), ((0, 1), (1, 1)))
+    (('alike', (('exchange', 0),)), ('apart', (('back', 1),)))
+    >>> price(lamp, (2, 2), most=999)
+    (38, 9, 6)
+'''
+FOLDING = '''
+    >>> from ownback.folding import foldable, folded, settled_alike, window
+    >>> lamp = (0, ((1, 0), (1, 1)))
+    >>> [window(lamp, 2, ((1, 1), (0, 0)), (1, 0)), foldable(lamp, 2, ((1, 1), (0, 0)), (1, 0))]
+    [((0, 1), (1, 0)), ((0, 0), (1, 0))]
+    >>> folded(lamp, 2, ((1, 1), (0, 0)), (1, 0))
+    ((1, ((1, 0), (1, 1))), ((1, 0),), (0, 0))
+    >>> [foldable((0, ((1, 1, 2), (0, 2, 2))), 2, ((1, 0), (0, 1)), settled) for settled in ((1, 0), (1, 1))]
+    [((0, 0),), ((0, 0), (0, 1), (1, 1))]
+    >>> [settled_alike(lamp, 1, ((0, 0), (0, 1)), ((0, 1), (0, 1)), settled) for settled in ((0,), (2,))]
+    [True, True]
+'''
+REDO = '''
+    >>> from ownback.redo import Redoer, marked_kinds, marked_of, marked_parting
+    >>> lamp = (0, ((1, 0), (1, 1)))
+    >>> marked_of(lamp, 2, [("deed", 0, 1), ("back", 0), ("deed", 1, 0), ("again", 0)])
+    (((0, 1), (1, 0)), (1, 1))
+    >>> desk = Redoer(lamp, 2)
+    >>> [desk.take(press) for press in (("deed", 0, 1), ("deed", 1, 0), ("back", 0))], desk.board_now()
+    ([(((0, 0),), (1, 0)), (((0, 0), (1, 0)), (1, 1)), (((0, 0), (1, 0)), (0, 1))], 1)
+    >>> marked_parting(lamp, 2, (((0, 0), (1, 0)), (0, 1)), (((0, 0), (1, 1)), (0, 1))), marked_kinds(lamp, (1, 1), most=99)
+    ((('again', 0),), 8)
+'''
+TRACES = '''
+    >>> from ownback.groups import blurs, commuting_boards, free_paper, same_boards
+    >>> from ownback.traces import kinds_are_traces, trace_count, trace_paper, trace_polynomial, trace_steps, trace_totals, traces_paper
+    >>> lamp, light, setting = (0, ((1, 0), (0, 0))), (0, ((1, 0), (0, 1))), (0, ((0, 0), (1, 1)))
+    >>> same_boards(lamp, 0, 1), commuting_boards(lamp, 0, 1), blurs(lamp, 2), free_paper(lamp), free_paper(light)
+    ((1,), (), (('alike', 0, 1, 1),), ('joined', 1, 0, 1), None)
+    >>> trace_steps(light, 2, ((0, 0), (1, 1), (1, 0))), trace_paper(lamp, 2, ((0, 0), (1, 1)), ((1, 1), (0, 0)))
+    ((((0, 0), (1, 1)), ((1, 0),)), ((0, 0), (1, 1)))
+    >>> traces_paper(lamp, 1), kinds_are_traces(setting, 2), trace_polynomial(setting, 2), trace_totals(setting, 2, 3)
+    ((((0, 0), (0, 0)), ((0, 0), (0, 1))), True, (1, -4, 2), (1, 4, 14, 48))
+    >>> trace_count(setting, (1, 1)), trace_count(lamp, (2, 2)), trace_count(light, (1, 1, 1))
+    (6, 52, 8)
+'''
+BOOKS = '''
+    >>> from ownback.book import folded_octets, new_book, plain_book
     >>> light = (0, ((1, 0), (0, 1)))
+    >>> book = new_book(light, 2)
+    >>> [book.take(press) for press in (("deed", 1, 0), ("deed", 0, 1), ("back", 1), ("deed", 1, 1))], book.loose(), book.history
+    ([1, 1, 0, 0], 11, ((0, 1), (1, 1)))
+    >>> book.cut(7)
+    >>> book.history, book.both_pages(), book.board_now()
+    (((1, 0), (0, 1)), ((0, 0, 0, 1, 1, 0, 1, 0, 1), ()), 1)
+    >>> book.fold()
+    >>> book.history, book.both_pages()[1], folded_octets(light, 2, ((1, 0), (0, 1)))
+    (((0, 1), (1, 0)), (1, 0, 2, 0, 1, 1, 0), (0, 0, 2, 0, 1, 1, 0))
     >>> from ownback.ranks import packed, rank_of, ranked, unpacked
     >>> rank_of(light, 2, ((1, 0), (0, 1)), most=99), ranked(light, (1, 1), 2, most=99), packed(light, 2, ((0, 1), (1, 1)), most=99)
     (2, ((0, 1), (1, 0)), (3,))
     >>> unpacked(light, (1, 1), (0,), most=99)
     ((0, 0), (1, 0))
+'''
+WHOLE = '''
+    >>> from ownback.picture import compare, picture, price
+    >>> from ownback.world import World
+    >>> setting = (0, ((0, 0, 0), (1, 2, 1)))
+    >>> picture(setting, 2, [("deed", 0, 1), ("deed", 1, 1), ("deed", 0, 0), ("back", 1)])
+    (0, (2, 0), ((0, 1), (0, 0)))
+    >>> compare(setting, 2, ((0, 1), (1, 1)), ((1, 1), (0, 1))), compare(setting, 2, ((0, 1), (1, 0)), ((1, 0), (0, 1)))
+    (('alike', (('exchange', 0),)), ('apart', ()))
+    >>> price(setting, (2, 2), most=999), price((0, ((1, 0),)), (5, 5), most=99)
+    ((52, 16, 6), (1, 1, 0))
+    >>> world = World(setting, 2)
+    >>> world.take(("deed", 1, 0)), world.take(("deed", 0, 1)), world.take(("back", 1)), world.beside(((0, 0),))
+    ((0, (0, 1), ((1, 0),)), (1, (1, 1), ((1, 0), (0, 1))), (1, (1, 0), ((0, 1),)), ('apart', ()))
+'''
+LINES = r'''
+    >>> from ownback.desk import Desk
+    >>> from ownback.settings import read_setting, write_setting
+    >>> text = "boards off on\nstart off\ndeed flip on off\ndeed set on on"
+    >>> read_setting(text), write_setting(((1, ((1, 0),)), ("a", "b2"), ("go",)))
+    (((0, ((1, 0), (1, 1))), ('off', 'on'), ('flip', 'set')), 'boards a b2\nstart b2\ndeed go b2 a')
+    >>> desk = Desk(text, 2)
+    >>> [desk.say(line) for line in ("do 0 flip", "do 1 set", "back 0", "kept", "like 1 flip", "like 0 flip", "back 0")]
+    ['on', 'on', 'on', '1 flip', 'alike 1', 'numbers', 'refused']
+    >>> [desk.say(line) for line in ("loose", "keep", "do 0 flip", "fold", "cut 6", "stand", "clash", "traces")]
+    ['8', '0', 'off', '7', 'off', '1 1', 'flip set', 'no']
+'''
+SEEN = '''
+    >>> from ownback.seen import looks_shown, seen_alike, seen_count, seen_normal, seen_parting, seen_table
+    >>> ring, looks = (0, ((1, 2, 3, 0), (0, 1, 2, 3))), (0, 1, 0, 1)
+    >>> seen_table(ring, looks, 2, ((0, 0), (1, 0))), seen_alike(ring, looks, 2, ((0, 0), (1, 1)), ((1, 1), (0, 0)))
+    (((1, 1), (0, 1, 1, 0)), True)
+    >>> len(seen_parting(ring, looks, 2, ((0, 0), (1, 1)), ((0, 1), (1, 0)))), seen_normal(ring, looks, 2, ((1, 1), (0, 0)))
+    (1, ((0, 0), (1, 1)))
+    >>> looks_shown(ring, looks, 2, ((0, 0), (1, 1)), [("back", 0), ("deed", 0, 0)]), seen_count(ring, looks, (1, 1), most=99)
+    ((1, 0, 1), 4)
+    >>> seen_parting(ring, (0, 0, 0, 1), 1, ((0, 0),), ((0, 1),))
+    (('deed', 0, 0), ('deed', 0, 0))
 '''
 
 
@@ -245,8 +341,29 @@ class Examples(unittest.TestCase):
     def test_parting(self):
         self.holds(PARTING)
 
-    def test_ranks(self):
-        self.holds(RANKS)
+    def test_overview(self):
+        self.holds(OVERVIEW)
+
+    def test_folding(self):
+        self.holds(FOLDING)
+
+    def test_redo(self):
+        self.holds(REDO)
+
+    def test_traces(self):
+        self.holds(TRACES)
+
+    def test_books(self):
+        self.holds(BOOKS)
+
+    def test_whole(self):
+        self.holds(WHOLE)
+
+    def test_lines(self):
+        self.holds(LINES)
+
+    def test_seen(self):
+        self.holds(SEEN)
 
     def test_readme(self):
         path = pathlib.Path(__file__).resolve().parent.parent / "README.md"

@@ -2,6 +2,7 @@ import ast
 import inspect
 import importlib
 import pathlib
+import re
 import unittest
 
 PACKAGE = pathlib.Path(__file__).resolve().parent.parent / "ownback"
@@ -60,9 +61,42 @@ INTERFACE = {
                "fewest_presses(machine,hands,one,other) parted_at(machine,hands,one,other,presses) "
                "plan_presses(machine,hands,histories) plan(machine,hands,histories) "
                "plan_holds(machine,hands,histories,value)",
+    "folding": "settled_pressed(machine,hands,history,settled,press) window(machine,hands,history,settled) "
+               "settled_alike(machine,hands,one,other,settled) foldable(machine,hands,history,settled) "
+               "folded(machine,hands,history,settled)",
+    "redo": "check_marked(machine,hands,value) marked_board(machine,hands,marked) "
+            "marked_pressed(machine,hands,marked,press) marked_of(machine,hands,presses) "
+            "marked_table(machine,hands,marked) marked_alike(machine,hands,one,other) "
+            "marked_normal(machine,hands,marked) marked_kinds(machine,counts,*,most) "
+            "marked_parting(machine,hands,one,other) Redoer(machine,hands)",
+    "groups": "same_boards(machine,one,other) commuting_boards(machine,one,other) deeds_alike(machine,one,other) "
+              "least_deed(machine,deed) least_deeds(machine) unlike_deeds(machine) deeds_commute(machine,one,other) "
+              "commuting_rows(machine) blurs(machine,hands) free_paper(machine) acts_freely(machine)",
+    "traces": "letters_of(machine,hands,history) do_lean(machine,hands,letter,other) "
+              "trace_steps(machine,hands,history) is_trace(machine,hands,value) trace_history(machine,hands,steps) "
+              "trace_paper(machine,hands,history,other) same_trace(machine,hands,history,other) "
+              "traces_paper(machine,hands) kinds_are_traces(machine,hands) clique_counts(machine,hands) "
+              "trace_count(machine,counts) trace_polynomial(machine,hands) trace_totals(machine,hands,last) "
+              "traces_of(machine,counts,*,most)",
+    "journals": "begun_octets(sign,history) plain_journal(pages) Journal() open_journal(pages)",
+    "book": "folded_octets(machine,hands,history) plain_book(machine,hands,pages) new_book(machine,hands) "
+            "open_book(machine,hands,pages)",
+    "seen": "seen_table(machine,looks,hands,history) seen_alike(machine,looks,hands,one,other) "
+            "seen_normal(machine,looks,hands,history) seen_count(machine,looks,counts,*,most) "
+            "looks_shown(machine,looks,hands,history,presses) seen_parting(machine,looks,hands,one,other)",
+    "picture": "picture(machine,hands,presses) compare(machine,hands,one,other) price(machine,counts,*,most)",
+    "world": "World(machine,hands)",
+    "settings": "check_setting(value) write_setting(setting) read_setting(text)",
+    "desk": "Desk(text,hands)",
 }
 METHODS = {
     ("keeper", "Keeper"): "take(self,press) take_all(self,presses) board_now(self) standing(self) twin(self)",
+    ("redo", "Redoer"): "take(self,press) board_now(self)",
+    ("journals", "Journal"): "lay(self,press) keep(self) loose(self) begin(self,history) cut(self,left)",
+    ("book", "Book"): "take(self,press) board_now(self) both_pages(self) keep(self) loose(self) cut(self,left) "
+                      "fold(self)",
+    ("world", "World"): "take(self,press) tells(self) beside(self,history)",
+    ("desk", "Desk"): "say(self,line)",
 }
 
 
@@ -84,6 +118,20 @@ class Interface(unittest.TestCase):
                 if given:
                     signature = str(inspect.signature(getattr(found, name))).replace(" ", "")
                     self.assertEqual(signature, "(" + given, name)
+
+    def test_all_that_is_listed(self):
+        """The document's own list, if it is at hand."""
+        path = PACKAGE.parent.parent / "shared" / "DOC.md"
+        if path.exists():
+            text = path.read_text(encoding="utf-8").partition("# The interface")[2]
+            for row in [row for row in text.split("\n") if row.startswith("- `ownback/")]:
+                module, _, names = row.partition(": ")
+                listed = re.findall("`([A-Za-z_]+)`", names)
+                here = INTERFACE[module.partition("/")[2].partition(".")[0]]
+                methods = " ".join(METHODS.values())
+                known = [name.partition("(")[0] for name in (here + " " + methods).split()]
+                self.assertLessEqual(set(listed), set(known), module)
+                self.assertLessEqual({name.partition("(")[0] for name in here.split()}, set(listed), module)
 
     def test_methods_are_defined_in_the_class_itself(self):
         for (module, name), methods in METHODS.items():

@@ -29,7 +29,7 @@ BARRED = ("register mro elements open input law version_info with_traceback add_
           "os quit super type vars sys").split()
 WORDS = re.compile(r"\b(type|typing|enum|Enum|Generic|Protocol|ABC|namedtuple|NamedTuple|abstractmethod)\b")
 STATEMENTS = (ast.Global, ast.AsyncFunctionDef, ast.AsyncFor, ast.AsyncWith, ast.Import, ast.Nonlocal, ast.Lambda,
-              ast.Try, ast.With, ast.Match, ast.Yield, ast.YieldFrom, ast.Await, ast.Set, ast.Delete, ast.Assert)
+              ast.With, ast.Match, ast.Yield, ast.YieldFrom, ast.Await, ast.Set, ast.Delete, ast.Assert)
 LOOPED = (ast.For, ast.comprehension)
 
 
@@ -119,6 +119,19 @@ class Language(unittest.TestCase):
                     self.only_plain_is(node, name)
                 if isinstance(node, LOOPED):
                     self.assertNotIsInstance(node.iter, (ast.Set, ast.SetComp), name)
+
+    def test_only_own_errors_are_caught(self):
+        own = {node.name for file, tree in self.trees() for node in tree.body
+               if file == "errors.py" and isinstance(node, ast.ClassDef)}
+        for name, tree in self.trees():
+            for node in ast.walk(tree):
+                if isinstance(node, ast.Try):
+                    self.assertEqual((node.orelse, node.finalbody), ([], []), name)
+                    for handler in node.handlers:
+                        caught = handler.type.elts if isinstance(handler.type, ast.Tuple) else [handler.type]
+                        self.assertLessEqual({error.id for error in caught}, own, name)
+                if isinstance(node, ast.Raise):
+                    self.assertIn(node.exc.func.id, own, name)
 
     def only_plain_is(self, node, name):
         for sign, right in zip(node.ops, node.comparators):
