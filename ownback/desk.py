@@ -7,7 +7,7 @@ from ownback.counts import count
 from ownback.errors import NoBoard, NoDeed, NoHand, OwnError
 from ownback.finite import finite_machine
 from ownback.growth import growth
-from ownback.histories import check_hands, counts_of
+from ownback.histories import counts_of
 from ownback.lasts import lasts
 from ownback.lines import history_said, joined, parts_said, words_told
 from ownback.normal import normal_of
@@ -147,9 +147,8 @@ class Desk:
 
     def __init__(self, text, hands):
         self.machine, self.boards, self.deeds = read_setting(text)
-        check_hands(hands)
-        self.hands = hands
         self.book = new_book(self.machine, hands)
+        self.hands = hands
 
     def say(self, line):
         word, told = words_told(line, self.hands)

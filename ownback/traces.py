@@ -2,10 +2,10 @@
 
 from math import comb
 
-from ownback.checks import as_rows, ascends, is_number, is_sequence
+from ownback.checks import as_rows, is_number, is_sequence
 from ownback.errors import Refused, TooGreat
 from ownback.groups import all_blurs, all_commuting, all_least
-from ownback.histories import check_hands, check_history, check_two, is_letter
+from ownback.histories import check_hands, check_history, check_two, is_history, is_letter
 from ownback.machines import check_machine, first_rows
 from ownback.tables import check_counts, vectors_of
 
@@ -64,24 +64,16 @@ def trace_steps(machine, hands, history):
     return steps_behind(machine, check_history(machine, hands, history))
 
 
-def is_step(machine, hands, value):
-    """Whether any value is a letter or more, of least deeds, ascending."""
-    if not is_sequence(value) or len(value) == 0:
-        return False
-    if not all([is_letter(letter, hands, len(machine[1])) for letter in value]):
-        return False
-    letters = [tuple(letter) for letter in value]
-    return ascends(letters) and list(least_letters(machine, letters)) == letters
-
-
 def are_trace_steps(machine, hands, value):
-    if not is_sequence(value) or not all([is_step(machine, hands, step) for step in value]):
+    """Whether any value is steps into which their letters, in a row, are parted."""
+    if not is_sequence(value) or not all([is_history(step, hands, len(machine[1])) for step in value]):
         return False
     steps = tuple([as_rows(step) for step in value])
     return steps_behind(machine, in_a_row(steps)) == steps
 
 
 def in_a_row(steps):
+    """The letters of any such steps, one behind another."""
     return tuple([tuple(letter) for step in steps for letter in step])
 
 

@@ -1,8 +1,7 @@
 """A world: what stands, as it was done, and a keeper beside it."""
 
-from ownback.histories import boards_behind, check_hands, press_made, standing
+from ownback.histories import boards_behind, press_made, standing
 from ownback.keeper import Keeper
-from ownback.machines import check_machine
 from ownback.picture import compare
 
 
@@ -10,11 +9,10 @@ class World:
     """A desk at which nothing was pressed yet, with a keeper that takes the same presses."""
 
     def __init__(self, machine, hands):
-        self.machine = check_machine(machine)
-        check_hands(hands)
+        self.keeper = Keeper(machine, hands)
+        self.machine = self.keeper.machine
         self.hands = hands
         self.history = ()
-        self.keeper = Keeper(self.machine, hands)
 
     def take(self, press):
         self.history = press_made(self.machine, self.hands, self.history, press)

@@ -274,6 +274,13 @@ class Asked(unittest.TestCase, Trying):
         with self.assertRaises(TooGreat):
             finite_machine(great, 4, most=2000)
         self.same(desk_of(great, 4).say("kinds 2 2 2 2"), "refused")
+        # Just 2000 situations, and one more.
+        machine, counts = (0, ((0, 2, 3, 2), (2, 1, 1, 1))), (1, 3, 4)
+        self.same(desk_of(machine, 3).say("kinds 1 3 4"), str(count(machine, counts, most=2000)))
+        self.fails(TooGreat, 1999, count, machine, counts, most=1999)
+        machine = (0, ((1, 1, 0, 3), (1, 2, 3, 1), (2, 2, 0, 2)))
+        self.same(desk_of(machine, 3).say("kinds 1 4 1"), "refused")
+        self.assertGreater(count(machine, (1, 4, 1), most=2001), 0)
 
     def test_limits(self):
         begun = time.monotonic()

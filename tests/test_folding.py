@@ -236,6 +236,11 @@ class Folded(unittest.TestCase, Trying):
             behind = [(chance.randrange(hands), chance.randrange(len(machine[1]))) for _ in range(3)]
             self.assertIn(settled, foldable(machine, hands, ahead + tuple(behind), settled))
 
+    def test_the_least_of_several_goes(self):
+        machine, history = (0, ((1, 1, 0), (2, 0, 1))), ((0, 1), (1, 0), (2, 1))
+        self.same(foldable(machine, 3, history, (1, 0, 1)), ((0, 0, 0), (0, 0, 1), (1, 0, 0)))
+        self.same(folded(machine, 3, history, (1, 0, 1))[2], (1, 0, 0))
+
     def test_edges(self):
         self.same(foldable(LAMP, 2, (), [0, 0]), ((0, 0),))
         self.same(folded(LAMP, 2, (), [0, 0]), (LAMP, (), (0, 0)))

@@ -9,7 +9,7 @@ from ownback.looks import least_machine
 from ownback.normal import normal_of
 from ownback.seen import looks_shown, seen_alike, seen_count, seen_normal, seen_parting, seen_table
 from tests.trying import (
-    LAMP, ODD, SMALL, Trying, all_rows, behind_press, board_of, counts_in, histories_with, presses_of,
+    LAMP, ODD, SMALL, Trying, all_rows, behind_press, board_of, counts_in, first_deeds, histories_with, presses_of,
     random_machines, tried_table,
 )
 
@@ -88,10 +88,32 @@ class Seen(unittest.TestCase, Trying):
             self.assertIsNone(fewest_apart(machine, looks, hands, one, other, 3))
             return
         self.assertTrue(all(press.__class__ is tuple for press in (presses, *presses)))
-        left, right = played(one, presses), played(other, presses)
-        self.assertNotEqual(look_of(machine, looks, left), look_of(machine, looks, right))
+        shown = [looks_shown(machine, looks, hands, history, presses) for history in (one, other)]
+        self.assertEqual((shown[0][:-1], shown[0] == shown[1]), (shown[1][:-1], False))
         if len(presses) <= 4:
             self.assertEqual(fewest_apart(machine, looks, hands, one, other, len(presses)), len(presses))
+
+    def test_fewest_by_the_tables(self):
+        """By all vectors as many backs as lead there, and the fewest deeds that part the boards there."""
+        chance = random.Random(208)
+        for machine, looks in CASES:
+            for hands in (1, 2, 3):
+                one = [(chance.randrange(hands), chance.randrange(len(machine[1]))) for _ in range(6)]
+                other = [(hand, chance.randrange(len(machine[1]))) for hand, _ in one]
+                chance.shuffle(other)
+                vectors = itertools.product(*[range(many + 1) for many in counts_in(hands, one)])
+                told = [6 - sum(vector) + self.fewest_deeds(machine, looks, first_deeds(one, vector),
+                                                            first_deeds(other, vector)) for vector in vectors]
+                presses = seen_parting(machine, looks, hands, one, other)
+                self.assertEqual(min(told), 999 if presses is None else len(presses))
+
+    def fewest_deeds(self, machine, looks, one, other):
+        pairs = {(board_of(machine, one), board_of(machine, other))}
+        for many in range(20):
+            if any(looks[left] != looks[right] for left, right in pairs):
+                return many
+            pairs = {(moves[left], moves[right]) for left, right in pairs for moves in machine[1]}
+        return 999
 
     def test_deeds_may_be_needed(self):
         self.same(len(seen_parting(LATE, (0, 0, 0, 0, 0, 1), 1, ((0, 0),), ((0, 1),))), 4)
@@ -100,6 +122,9 @@ class Seen(unittest.TestCase, Trying):
         one, other = ((0, 0), (0, 0), (0, 0), (0, 0)), ((0, 0), (0, 1), (0, 1), (0, 1))
         self.same(seen_parting(RING, (0, 0, 0, 1), 1, one, other), (("back", 0),))
         self.same(seen_parting(RING, (0, 0, 0, 1), 1, one[1:], other[1:]), ())
+        # Two boards come together at several vectors; the nearest one is not the last.
+        one, other = ((0, 0), (1, 0), (1, 1)), ((1, 1), (1, 1), (0, 1))
+        self.same(seen_parting((0, ((1, 0), (0, 1))), (0, 1), 2, one, other), (("back", 0),))
 
     def test_unlike_numbers(self):
         for one, other in ((((0, 0),), ((1, 0),)), ((), ((0, 0),)), (((0, 0), (1, 1)), ((0, 0),))):
